@@ -2,41 +2,16 @@ package probe
 
 import (
 	"strobe/api"
+	"strobe/common"
 	"strobe/number"
 )
 
-// firstError returns the first error, or OK.
-func firstError(errors ...api.Errno) api.Errno {
-	for _, e := range errors {
-		if e != api.OK {
-			return e
-		}
-	}
-	return api.OK
-}
-
-// inRange returns ErrRange if n is not from least to most.
-func inRange(n, least, most int) api.Errno {
-	if n < least || n > most {
-		return api.ErrRange
-	}
-	return api.OK
-}
-
-// atMost returns ErrMany if a list has more than most elements.
-func atMost[T any](list []T, most int) api.Errno {
-	if len(list) > most {
-		return api.ErrMany
-	}
-	return api.OK
-}
-
 // CheckAdc returns the first error of a converter, or OK.
 func CheckAdc(a Adc) api.Errno {
-	if e := firstError(inRange(a.Bits, MinBits, MaxBits), inRange(a.Step, MinStep, MaxStep)); e != api.OK {
+	if e := common.FirstError(common.InRange(a.Bits, MinBits, MaxBits), common.InRange(a.Step, MinStep, MaxStep)); e != api.OK {
 		return e
 	}
-	return firstError(inRange(a.Zero, 0, a.top()), checkGain(a.Gain), number.Check(a.Offset))
+	return common.FirstError(common.InRange(a.Zero, 0, a.top()), checkGain(a.Gain), number.Check(a.Offset))
 }
 
 // checkGain returns the error of a number, and ErrRange if it is not above 0.
@@ -53,7 +28,7 @@ func checkCode(a Adc, code int) api.Errno {
 	if e := CheckAdc(a); e != api.OK {
 		return e
 	}
-	return inRange(code, 0, a.top())
+	return common.InRange(code, 0, a.top())
 }
 
 // checkInner returns the error of a code, and ErrClip if it has no interval.
@@ -67,7 +42,7 @@ func checkInner(a Adc, code int) api.Errno {
 
 // checkVoltages returns the error of voltages.
 func checkVoltages(volts []api.Rat) api.Errno {
-	if e := atMost(volts, api.MaxSamples); e != api.OK {
+	if e := common.AtMost(volts, api.MaxSamples); e != api.OK {
 		return e
 	}
 	for _, v := range volts {

@@ -6,6 +6,7 @@ import (
 	"strings"
 
 	"strobe/api"
+	"strobe/common"
 	"strobe/number"
 	"strobe/rational"
 )
@@ -98,7 +99,7 @@ func Full(a Adc) (api.Span, api.Errno) {
 
 // Code returns the code of a voltage, and whether it was clipped: -1 at the lower end, 1 at the upper end, 0 otherwise.
 func Code(a Adc, volts api.Rat) (int, int, api.Errno) {
-	if e := firstError(CheckAdc(a), number.Check(volts)); e != api.OK {
+	if e := common.FirstError(CheckAdc(a), number.Check(volts)); e != api.OK {
 		return 0, 0, e
 	}
 	code, end := a.code(volts)
@@ -133,7 +134,7 @@ func True(a Adc, code int) (api.Span, api.Errno) {
 	}
 	low, errLow := a.trueVolts(interval.Low)
 	high, errHigh := a.trueVolts(interval.High)
-	if e := firstError(errLow, errHigh); e != api.OK {
+	if e := common.FirstError(errLow, errHigh); e != api.OK {
 		return api.Span{}, e
 	}
 	return api.Span{Low: low, High: high}, api.OK
@@ -159,7 +160,7 @@ func read(a api.Rat) rational.Number {
 
 // Calibrated returns a converter whose calibration fits two marks.
 func Calibrated(a Adc, first, second Mark) (Adc, api.Errno) {
-	e := firstError(checkCode(a, first.Code), number.Check(first.Volts), checkCode(a, second.Code), number.Check(second.Volts))
+	e := common.FirstError(checkCode(a, first.Code), number.Check(first.Volts), checkCode(a, second.Code), number.Check(second.Volts))
 	if e != api.OK {
 		return Adc{}, e
 	}
@@ -174,7 +175,7 @@ func Calibrated(a Adc, first, second Mark) (Adc, api.Errno) {
 	}
 	gain, errGain := slope.Write()
 	offset, errOffset := volts.Minus(slope.Times(nominal)).Write()
-	if e := firstError(errGain, errOffset); e != api.OK {
+	if e := common.FirstError(errGain, errOffset); e != api.OK {
 		return Adc{}, e
 	}
 	return a.calibrated(gain, offset), api.OK

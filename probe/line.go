@@ -2,6 +2,7 @@ package probe
 
 import (
 	"strobe/api"
+	"strobe/common"
 	"strobe/number"
 )
 
@@ -15,15 +16,15 @@ func comparator(l Levels, value bool) func(float32) bool {
 
 // Digital returns the digital line of samples.
 func Digital(samples []float32, l Levels, before bool) ([]bool, api.Errno) {
-	if e := firstError(number.CheckSamples(samples), CheckLevels(l)); e != api.OK {
+	if e := common.FirstError(number.CheckSamples(samples), CheckLevels(l)); e != api.OK {
 		return nil, e
 	}
-	return transformed(samples, comparator(l, before)), api.OK
+	return common.Transformed(samples, comparator(l, before)), api.OK
 }
 
 // Changes returns the times at which a line changes.
 func Changes(line []bool, before bool) ([]int, api.Errno) {
-	if e := atMost(line, api.MaxSamples); e != api.OK {
+	if e := common.AtMost(line, api.MaxSamples); e != api.OK {
 		return nil, e
 	}
 	var times []int
@@ -38,7 +39,7 @@ func Changes(line []bool, before bool) ([]int, api.Errno) {
 
 // FromChanges returns the line with n samples that changes at some times.
 func FromChanges(times []int, before bool, n int) ([]bool, api.Errno) {
-	if e := firstError(atMost(times, api.MaxSamples), inRange(n, 0, api.MaxSamples), checkTimes(times, n)); e != api.OK {
+	if e := common.FirstError(common.AtMost(times, api.MaxSamples), common.InRange(n, 0, api.MaxSamples), checkTimes(times, n)); e != api.OK {
 		return nil, e
 	}
 	line := make([]bool, n)
@@ -57,7 +58,7 @@ func FromChanges(times []int, before bool, n int) ([]bool, api.Errno) {
 func checkTimes(times []int, n int) api.Errno {
 	last := -1
 	for _, time := range times {
-		if e := inRange(time, 0, n-1); e != api.OK {
+		if e := common.InRange(time, 0, n-1); e != api.OK {
 			return e
 		}
 		if time <= last {

@@ -2,29 +2,21 @@ package probe
 
 import (
 	"strobe/api"
+	"strobe/common"
 	"strobe/number"
 )
 
-// transformed returns the results of a function for the elements of a list, in their order.
-func transformed[From, To any](list []From, change func(From) To) []To {
-	results := make([]To, len(list))
-	for i, element := range list {
-		results[i] = change(element)
-	}
-	return results
-}
-
 // Sampled returns the samples of nominal voltages.
 func Sampled(a Adc, volts []api.Rat) ([]float32, api.Errno) {
-	if e := firstError(CheckAdc(a), checkVoltages(volts)); e != api.OK {
+	if e := common.FirstError(CheckAdc(a), checkVoltages(volts)); e != api.OK {
 		return nil, e
 	}
-	return transformed(volts, a.sample), api.OK
+	return common.Transformed(volts, a.sample), api.OK
 }
 
 // Codes returns the codes of samples.
 func Codes(a Adc, samples []float32) ([]int, api.Errno) {
-	if e := firstError(CheckAdc(a), number.CheckSamples(samples)); e != api.OK {
+	if e := common.FirstError(CheckAdc(a), number.CheckSamples(samples)); e != api.OK {
 		return nil, e
 	}
 	known := a.codesOfSamples()
@@ -80,7 +72,7 @@ search:
 
 // Aligned returns records whose samples with the same index belong to the same time.
 func Aligned(records [][]float32, skews []int) ([][]float32, api.Errno) {
-	if e := firstError(checkRecords(records), checkSkews(skews, len(records))); e != api.OK {
+	if e := common.FirstError(checkRecords(records), checkSkews(skews, len(records))); e != api.OK {
 		return nil, e
 	}
 	from, to := commonTimes(records, skews)
@@ -89,7 +81,7 @@ func Aligned(records [][]float32, skews []int) ([][]float32, api.Errno) {
 	}
 	aligned := make([][]float32, len(records))
 	for i, record := range records {
-		aligned[i] = transformed(record[from+skews[i]:to+skews[i]], positiveZero)
+		aligned[i] = common.Transformed(record[from+skews[i]:to+skews[i]], common.PositiveZero)
 	}
 	return aligned, api.OK
 }
@@ -99,10 +91,10 @@ func checkRecords(records [][]float32) api.Errno {
 	if len(records) == 0 {
 		return api.ErrEmpty
 	}
-	if e := atMost(records, api.MaxChannels); e != api.OK {
+	if e := common.AtMost(records, api.MaxChannels); e != api.OK {
 		return e
 	}
-	return firstError(transformed(records, number.CheckSamples)...)
+	return common.FirstError(common.Transformed(records, number.CheckSamples)...)
 }
 
 // checkSkews returns ErrShape if there are not n skews, and then the first error of one.
@@ -110,7 +102,7 @@ func checkSkews(skews []int, n int) api.Errno {
 	if len(skews) != n {
 		return api.ErrShape
 	}
-	return firstError(transformed(skews, func(skew int) api.Errno { return inRange(skew, -MaxSkew, MaxSkew) })...)
+	return common.FirstError(common.Transformed(skews, func(skew int) api.Errno { return common.InRange(skew, -MaxSkew, MaxSkew) })...)
 }
 
 // commonTimes returns the first time at which every record has a sample, and the time after the last one.
@@ -121,12 +113,4 @@ func commonTimes(records [][]float32, skews []int) (int, int) {
 		to = min(to, len(record)-skews[i])
 	}
 	return from, to
-}
-
-// positiveZero returns 0 for -0, and every other sample as it is: no result is -0.
-func positiveZero(sample float32) float32 {
-	if sample == 0 {
-		return 0
-	}
-	return sample
 }

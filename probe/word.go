@@ -5,6 +5,7 @@ import (
 	"slices"
 
 	"strobe/api"
+	"strobe/common"
 )
 
 // Words returns the words of digital lines.
@@ -28,7 +29,7 @@ func checkLines(lines [][]bool) api.Errno {
 	if len(lines) == 0 {
 		return api.ErrEmpty
 	}
-	if e := firstError(atMost(lines, api.MaxLines), atMost(lines[0], api.MaxSamples)); e != api.OK {
+	if e := common.FirstError(common.AtMost(lines, api.MaxLines), common.AtMost(lines[0], api.MaxSamples)); e != api.OK {
 		return e
 	}
 	for _, line := range lines {
@@ -52,7 +53,7 @@ func valuesOf(words []uint16, line int) iter.Seq[bool] {
 
 // Line returns a digital line of words.
 func Line(words []uint16, line int) ([]bool, api.Errno) {
-	if e := firstError(atMost(words, api.MaxSamples), inRange(line, 0, api.MaxLines-1)); e != api.OK {
+	if e := common.FirstError(common.AtMost(words, api.MaxSamples), common.InRange(line, 0, api.MaxLines-1)); e != api.OK {
 		return nil, e
 	}
 	values := make([]bool, 0, len(words))
@@ -64,7 +65,7 @@ func Line(words []uint16, line int) ([]bool, api.Errno) {
 
 // Block returns 16 words as an array.
 func Block(words []uint16) ([BlockLen]uint16, api.Errno) {
-	if e := atMost(words, api.MaxSamples); e != api.OK {
+	if e := common.AtMost(words, api.MaxSamples); e != api.OK {
 		return [BlockLen]uint16{}, e
 	}
 	if len(words) != BlockLen {
@@ -80,7 +81,7 @@ func blocksFor(n int) int {
 
 // Blocks returns words in blocks, the last one filled up with 0.
 func Blocks(words []uint16) ([][BlockLen]uint16, api.Errno) {
-	if e := atMost(words, api.MaxSamples); e != api.OK {
+	if e := common.AtMost(words, api.MaxSamples); e != api.OK {
 		return nil, e
 	}
 	blocks := make([][BlockLen]uint16, blocksFor(len(words)))
@@ -92,7 +93,7 @@ func Blocks(words []uint16) ([][BlockLen]uint16, api.Errno) {
 
 // Unpack returns the first n words of blocks.
 func Unpack(blocks [][BlockLen]uint16, n int) ([]uint16, api.Errno) {
-	if e := firstError(atMost(blocks, api.MaxSamples/BlockLen), inRange(n, 0, api.MaxSamples)); e != api.OK {
+	if e := common.FirstError(common.AtMost(blocks, api.MaxSamples/BlockLen), common.InRange(n, 0, api.MaxSamples)); e != api.OK {
 		return nil, e
 	}
 	if len(blocks) != blocksFor(n) {

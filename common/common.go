@@ -1,0 +1,47 @@
+// Package common has the small functions that several layers share: first errors, ranges, and lists.
+package common
+
+import "strobe/api"
+
+// FirstError returns the first error, or OK.
+func FirstError(errors ...api.Errno) api.Errno {
+	for _, e := range errors {
+		if e != api.OK {
+			return e
+		}
+	}
+	return api.OK
+}
+
+// InRange returns ErrRange if n is not from least to most.
+func InRange(n, least, most int) api.Errno {
+	if n < least || n > most {
+		return api.ErrRange
+	}
+	return api.OK
+}
+
+// AtMost returns ErrMany if a list has more than most elements.
+func AtMost[T any](list []T, most int) api.Errno {
+	if len(list) > most {
+		return api.ErrMany
+	}
+	return api.OK
+}
+
+// Transformed returns the results of a function for the elements of a list, in their order.
+func Transformed[From, To any](list []From, change func(From) To) []To {
+	results := make([]To, len(list))
+	for i, element := range list {
+		results[i] = change(element)
+	}
+	return results
+}
+
+// PositiveZero returns 0 for -0, and every other sample as it is: no result is -0.
+func PositiveZero(sample float32) float32 {
+	if sample == 0 {
+		return 0
+	}
+	return sample
+}
