@@ -4,7 +4,6 @@ import (
 	"strobe/api"
 	"strobe/common"
 	"strobe/number"
-	"strobe/rational"
 )
 
 // CheckSetup returns the first error of a set-up, or OK.
@@ -98,13 +97,4 @@ func checkAlike(l []Segment) api.Errno {
 // checkBits returns the error of the number of bits of time stamps.
 func checkBits(bits int) api.Errno {
 	return common.InRange(bits, 1, MaxBits)
-}
-
-// readHysteresis returns the value of a hysteresis, or its error.
-func readHysteresis(hysteresis api.Rat) (rational.Number, api.Errno) {
-	x, e := rational.Read(hysteresis)
-	if e == api.OK && x.Sign() < 0 {
-		e = api.ErrRange
-	}
-	return x, e
 }

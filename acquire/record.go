@@ -58,7 +58,7 @@ func isFinite(block [BlockSize]float32) bool {
 // Flags returns at which samples a level is crossed.
 func Flags(samples []float32, level, hysteresis api.Rat, rising bool) ([]bool, api.Errno) {
 	to, errLevel := rational.Read(level)
-	gap, errHysteresis := readHysteresis(hysteresis)
+	gap, errHysteresis := rational.ReadSigned(hysteresis, 0)
 	if e := common.FirstError(number.CheckSamples(samples), errLevel, errHysteresis); e != api.OK {
 		return nil, e
 	}
@@ -96,13 +96,6 @@ func atMost(a rational.Number, samples []float32) func(float32) bool {
 func reaching(a rational.Number, sign int, samples []float32) func(float32) bool {
 	// A number may have hundreds of digits: sorted samples need only few comparisons with it.
 	sorted := slices.Sorted(slices.Values(samples))
-	first := sort.Search(len(sorted), func(i int) bool { return valueOf(sorted[i]).Minus(a).Sign() >= sign })
+	first := sort.Search(len(sorted), func(i int) bool { return rational.Exact(sorted[i]).Compare(a) >= sign })
 	return func(sample float32) bool { return first < len(sorted) && sample >= sorted[first] }
-}
-
-// valueOf returns the exact value of a sample that is finite.
-func valueOf(sample float32) rational.Number {
-	exact, _ := number.Exact(sample)
-	value, _ := rational.Read(exact)
-	return value
 }

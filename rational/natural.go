@@ -17,6 +17,11 @@ const (
 	base       = 1000000000
 )
 
+// naturalOf returns the natural with a value.
+func naturalOf(n uint64) natural {
+	return trimmed(natural{n % base, n / base % base, n / (base * base)})
+}
+
 // trimmed returns the words without those at the end that are 0.
 func trimmed(a natural) natural {
 	n := len(a)
@@ -52,6 +57,8 @@ func (a natural) text() string {
 }
 
 func (a natural) isZero() bool { return len(a) == 0 }
+
+func (a natural) isOne() bool { return len(a) == 1 && a[0] == 1 }
 
 // word returns the word with an index, and 0 where there is none.
 func (a natural) word(i int) uint64 {
@@ -112,6 +119,9 @@ func (a natural) over(b natural) (natural, natural) {
 	if a.compare(b) < 0 {
 		return nil, a
 	}
+	if len(b) == 1 {
+		return a.overWord(b[0])
+	}
 	quotient := make(natural, len(a)-len(b)+1)
 	rest := a[len(quotient):]
 	for i := len(quotient) - 1; i >= 0; i-- {
@@ -139,11 +149,46 @@ func (a natural) estimate(b natural) uint64 {
 	return quotient
 }
 
+// overWord returns the integer part of a / word, and the remainder; the word is from 1 to base - 1.
+func (a natural) overWord(word uint64) (natural, natural) {
+	quotient := make(natural, len(a))
+	rest := uint64(0)
+	for i := len(a) - 1; i >= 0; i-- {
+		part := rest*base + a[i]
+		quotient[i], rest = part/word, part%word
+	}
+	return trimmed(quotient), naturalOf(rest)
+}
+
 // commonDivisor returns the greatest common divisor; that of 0 and another natural is the other one.
 func commonDivisor(a, b natural) natural {
-	for !b.isZero() {
+	for len(b) > 2 {
 		_, rest := a.over(b)
 		a, b = b, rest
 	}
-	return a
+	if b.isZero() {
+		return a
+	}
+	_, rest := a.over(b)
+	// Both are below the square of the base, which fits into 64 bits.
+	x, y := b.word(1)*base+b.word(0), rest.word(1)*base+rest.word(0)
+	for y != 0 {
+		x, y = y, x%y
+	}
+	return naturalOf(x)
+}
+
+// dividedBy returns the integer part of a / b; b is above 0.
+func (a natural) dividedBy(b natural) natural {
+	if b.isOne() {
+		return a
+	}
+	quotient, _ := a.over(b)
+	return quotient
+}
+
+// withoutCommon returns two naturals, each divided by their greatest common divisor. They are not both 0.
+func withoutCommon(a, b natural) (natural, natural) {
+	divisor := commonDivisor(a, b)
+	return a.dividedBy(divisor), b.dividedBy(divisor)
 }

@@ -3,9 +3,12 @@
 package rational
 
 import (
+	"cmp"
+	"math"
 	"strings"
 
 	"strobe/api"
+	"strobe/common"
 	"strobe/number"
 )
 
@@ -16,15 +19,20 @@ type Number struct {
 	top, bottom natural
 }
 
-// lowest returns the quotient of two naturals, or the zero value if bottom is 0.
-func lowest(negative bool, top, bottom natural) Number {
-	if bottom.isZero() {
-		return Number{}
+// Of returns an integer.
+func Of(n int) Number {
+	if n < 0 {
+		// The magnitude of the least int is only right as an unsigned number.
+		return Number{true, naturalOf(-uint64(n)), naturalOf(1)}
 	}
-	divisor := commonDivisor(top, bottom)
-	top, _ = top.over(divisor)
-	bottom, _ = bottom.over(divisor)
-	return Number{negative && !top.isZero(), top, bottom}
+	return Number{false, naturalOf(uint64(n)), naturalOf(1)}
+}
+
+// Exact returns the exact value of a sample, or the zero value if it is not finite.
+func Exact(sample float32) Number {
+	text, _ := number.Exact(sample)
+	value, _ := Read(text)
+	return value
 }
 
 // Read returns the value of a number, or the error of number.Check.
@@ -40,9 +48,23 @@ func Read(a api.Rat) (Number, api.Errno) {
 	return Number{negative, parsed(top), parsed(bottom)}, api.OK
 }
 
+// ReadSigned returns the value of a number, the error of number.Check, or ErrRange if its sign is below a least one.
+func ReadSigned(a api.Rat, least int) (Number, api.Errno) {
+	x, e := Read(a)
+	if e == api.OK && x.Sign() < least {
+		return Number{}, api.ErrRange
+	}
+	return x, e
+}
+
+// ReadAll returns the values of some numbers, or the first error of one.
+func ReadAll(texts []api.Rat) ([]Number, api.Errno) {
+	return converted(texts, Read)
+}
+
 // Write returns the number with a value: ErrZero if there is none, ErrLarge if it has too many digits.
 func (a Number) Write() (api.Rat, api.Errno) {
-	if a.bottom.isZero() {
+	if !a.exists() {
 		return "", api.ErrZero
 	}
 	text, bottom := a.top.text(), a.bottom.text()
@@ -58,6 +80,27 @@ func (a Number) Write() (api.Rat, api.Errno) {
 	return api.Rat(text), api.OK
 }
 
+// WriteAll returns the numbers with some values, or the first error of one.
+func WriteAll(values []Number) ([]api.Rat, api.Errno) {
+	return converted(values, Number.Write)
+}
+
+// converted returns what a function makes of the elements of a list, or the first error of one.
+func converted[From, To any](list []From, convert func(From) (To, api.Errno)) ([]To, api.Errno) {
+	results := make([]To, len(list))
+	for i, element := range list {
+		result, e := convert(element)
+		if e != api.OK {
+			return nil, e
+		}
+		results[i] = result
+	}
+	return results, api.OK
+}
+
+// exists reports whether a value is a number.
+func (a Number) exists() bool { return !a.bottom.isZero() }
+
 // Sign returns -1, 0 or 1 if a is below 0, equal to it, or above it.
 func (a Number) Sign() int {
 	switch {
@@ -69,30 +112,117 @@ func (a Number) Sign() int {
 	return 1
 }
 
+// Compare returns -1, 0 or 1 if a is less than b, equal to it, or greater.
+func (a Number) Compare(b Number) int {
+	if a.Sign() != b.Sign() {
+		return cmp.Compare(a.Sign(), b.Sign())
+	}
+	// This is far faster than a difference in lowest terms.
+	return a.Sign() * a.top.times(b.bottom).compare(b.top.times(a.bottom))
+}
+
+// Denominator returns the denominator.
+func (a Number) Denominator() Number {
+	if !a.exists() {
+		return Number{}
+	}
+	return Number{top: a.bottom, bottom: naturalOf(1)}
+}
+
+// Negated returns -a.
+func (a Number) Negated() Number {
+	return Number{!a.negative && !a.top.isZero(), a.top, a.bottom}
+}
+
+// Magnitude returns the absolute value.
+func (a Number) Magnitude() Number {
+	return Number{false, a.top, a.bottom}
+}
+
 // Plus returns the sum.
 func (a Number) Plus(b Number) Number {
-	left, right := a.top.times(b.bottom), b.top.times(a.bottom)
-	bottom := a.bottom.times(b.bottom)
-	switch {
-	case a.negative == b.negative:
-		return lowest(a.negative, left.plus(right), bottom)
-	case left.compare(right) < 0:
-		return lowest(b.negative, right.minus(left), bottom)
+	if !a.exists() || !b.exists() {
+		return Number{}
 	}
-	return lowest(a.negative, left.minus(right), bottom)
+	// What the top of the sum has in common with its bottom is a part of what both bottoms have in common.
+	divisor := commonDivisor(a.bottom, b.bottom)
+	scaleA, scaleB := b.bottom.dividedBy(divisor), a.bottom.dividedBy(divisor)
+	negative, top := signedSum(a.negative, a.top.times(scaleA), b.negative, b.top.times(scaleB))
+	top, rest := withoutCommon(top, divisor)
+	return Number{negative, top, rest.times(scaleA).times(scaleB)}
+}
+
+// signedSum returns the sign and the magnitude of a sum; 0 is not negative.
+func signedSum(negativeA bool, a natural, negativeB bool, b natural) (bool, natural) {
+	if negativeA == negativeB {
+		return negativeA, a.plus(b)
+	}
+	switch order := a.compare(b); {
+	case order < 0:
+		return negativeB, b.minus(a)
+	case order > 0:
+		return negativeA, a.minus(b)
+	}
+	return false, nil
 }
 
 // Minus returns the difference.
 func (a Number) Minus(b Number) Number {
-	return a.Plus(Number{!b.negative, b.top, b.bottom})
+	return a.Plus(b.Negated())
 }
 
 // Times returns the product.
 func (a Number) Times(b Number) Number {
-	return lowest(a.negative != b.negative, a.top.times(b.top), a.bottom.times(b.bottom))
+	if !a.exists() || !b.exists() {
+		return Number{}
+	}
+	// Both factors are in lowest terms: only the top of one and the bottom of the other have common divisors.
+	topA, bottomB := withoutCommon(a.top, b.bottom)
+	topB, bottomA := withoutCommon(b.top, a.bottom)
+	top := topA.times(topB)
+	return Number{a.negative != b.negative && !top.isZero(), top, bottomA.times(bottomB)}
 }
 
 // Over returns the quotient.
 func (a Number) Over(b Number) Number {
-	return lowest(a.negative != b.negative, a.top.times(b.bottom), a.bottom.times(b.top))
+	return a.Times(Number{b.negative, b.bottom, b.top})
+}
+
+// Floor returns the greatest integer that is not above a.
+func (a Number) Floor() Number {
+	if !a.exists() {
+		return Number{}
+	}
+	whole, rest := a.top.over(a.bottom)
+	if a.negative && !rest.isZero() {
+		whole = whole.plus(naturalOf(1))
+	}
+	return Number{a.negative, whole, naturalOf(1)}
+}
+
+// Int returns the value of an integer from 0 to MaxNumber; it is 0 and false for every other number.
+func (a Number) Int() (int, bool) {
+	if !a.bottom.isOne() || a.negative || len(a.top) > 1 {
+		return 0, false
+	}
+	return int(a.top.word(0)), true
+}
+
+// Nearest returns the nearest float32, as number.Float does, or an infinity if a is too large for one.
+func (a Number) Nearest() float32 {
+	// All floats, and all numbers in the middle between two of them, are multiples of 2^-150. So all numbers
+	// between two consecutive multiples have the same nearest float, and one of them has few digits.
+	root := Exact(1 << 75)
+	scale := root.Times(root)
+	scaled := a.Times(scale)
+	coarse := scaled.Floor()
+	if coarse.Compare(scaled) != 0 {
+		coarse = coarse.Plus(Of(1).Over(Of(2)))
+	}
+	text, errText := coarse.Over(scale).Write()
+	nearest, errFloat := number.Float(text)
+	if common.FirstError(errText, errFloat) != api.OK {
+		return float32(math.Inf(a.Sign()))
+	}
+	return nearest
 }
