@@ -13,20 +13,22 @@ func FirstError(errors ...api.Errno) api.Errno {
 	return api.OK
 }
 
-// InRange returns ErrRange if n is not from least to most.
-func InRange(n, least, most int) api.Errno {
-	if n < least || n > most {
-		return api.ErrRange
+// ErrorIf returns an error if there is one, and otherwise OK.
+func ErrorIf(isError bool, e api.Errno) api.Errno {
+	if isError {
+		return e
 	}
 	return api.OK
 }
 
+// InRange returns ErrRange if n is not from least to most.
+func InRange(n, least, most int) api.Errno {
+	return ErrorIf(n < least || n > most, api.ErrRange)
+}
+
 // AtMost returns ErrMany if a list has more than most elements.
 func AtMost[T any](list []T, most int) api.Errno {
-	if len(list) > most {
-		return api.ErrMany
-	}
-	return api.OK
+	return ErrorIf(len(list) > most, api.ErrMany)
 }
 
 // Transformed returns the results of a function for the elements of a list, in their order.
@@ -36,6 +38,19 @@ func Transformed[From, To any](list []From, change func(From) To) []To {
 		results[i] = change(element)
 	}
 	return results
+}
+
+// Converted returns what a function makes of the elements of a list, in their order, or the first error of one.
+func Converted[From, To any](list []From, convert func(From) (To, api.Errno)) ([]To, api.Errno) {
+	results := make([]To, len(list))
+	for i, element := range list {
+		result, e := convert(element)
+		if e != api.OK {
+			return nil, e
+		}
+		results[i] = result
+	}
+	return results, api.OK
 }
 
 // PositiveZero returns 0 for -0, and every other sample as it is: no result is -0.

@@ -24,6 +24,15 @@ func TestFirstError(t *testing.T) {
 	}
 }
 
+func TestErrorIf(t *testing.T) {
+	if e := common.ErrorIf(true, api.ErrKind); e != api.ErrKind {
+		t.Errorf("ErrorIf: got %d", e)
+	}
+	if e := common.ErrorIf(false, api.ErrKind); e != api.OK {
+		t.Errorf("ErrorIf: got %d", e)
+	}
+}
+
 func TestInRange(t *testing.T) {
 	for n, wanted := range map[int]api.Errno{math.MinInt: api.ErrRange, -3: api.ErrRange, -2: api.OK, 0: api.OK, 5: api.OK, 6: api.ErrRange, math.MaxInt: api.ErrRange} {
 		if e := common.InRange(n, -2, 5); e != wanted {
@@ -52,6 +61,25 @@ func TestTransformed(t *testing.T) {
 	}
 	if len(common.Transformed(nil, strconv.Itoa)) != 0 {
 		t.Error("Transformed has elements of an empty list")
+	}
+}
+
+func TestConverted(t *testing.T) {
+	// The text of each number, whose sign and number of digits have errors of their own.
+	convert := func(n int) (string, api.Errno) {
+		return strconv.Itoa(n), common.FirstError(common.ErrorIf(n < 0, api.ErrRange), common.ErrorIf(n > 9, api.ErrLarge))
+	}
+	for _, row := range []struct {
+		list  []int
+		texts []string
+		e     api.Errno
+	}{
+		{nil, nil, api.OK}, {[]int{3, 1, 2}, []string{"3", "1", "2"}, api.OK}, {[]int{3, 10, -1}, nil, api.ErrLarge}, {[]int{-1, 10}, nil, api.ErrRange}, {[]int{1, 2, -1}, nil, api.ErrRange},
+	} {
+		texts, e := common.Converted(row.list, convert)
+		if !slices.Equal(texts, row.texts) || e != row.e {
+			t.Errorf("Converted %v: got %v, %d, want %v, %d", row.list, texts, e, row.texts, row.e)
+		}
 	}
 }
 

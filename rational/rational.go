@@ -59,7 +59,7 @@ func ReadSigned(a api.Rat, least int) (Number, api.Errno) {
 
 // ReadAll returns the values of some numbers, or the first error of one.
 func ReadAll(texts []api.Rat) ([]Number, api.Errno) {
-	return converted(texts, Read)
+	return common.Converted(texts, Read)
 }
 
 // Write returns the number with a value: ErrZero if there is none, ErrLarge if it has too many digits.
@@ -82,20 +82,7 @@ func (a Number) Write() (api.Rat, api.Errno) {
 
 // WriteAll returns the numbers with some values, or the first error of one.
 func WriteAll(values []Number) ([]api.Rat, api.Errno) {
-	return converted(values, Number.Write)
-}
-
-// converted returns what a function makes of the elements of a list, or the first error of one.
-func converted[From, To any](list []From, convert func(From) (To, api.Errno)) ([]To, api.Errno) {
-	results := make([]To, len(list))
-	for i, element := range list {
-		result, e := convert(element)
-		if e != api.OK {
-			return nil, e
-		}
-		results[i] = result
-	}
-	return results, api.OK
+	return common.Converted(values, Number.Write)
 }
 
 // exists reports whether a value is a number.

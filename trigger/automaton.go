@@ -1,6 +1,9 @@
 package trigger
 
-import "strobe/api"
+import (
+	"strobe/api"
+	"strobe/common"
+)
 
 // read returns the state of an automaton after a symbol, and whether it triggers.
 func (a Automaton) read(state, symbol int) (int, bool) {
@@ -60,7 +63,7 @@ func Spacing(a Automaton) (int, api.Errno) {
 			least = wait
 		}
 	}
-	return least, errorIf(least == 0, api.ErrNone)
+	return least, common.ErrorIf(least == 0, api.ErrNone)
 }
 
 // waits returns for each state the least number of symbols up to a trigger, or 0 if there is none.

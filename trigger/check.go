@@ -82,19 +82,19 @@ func checkField(c Cond, field rune, lines, depth int) api.Errno {
 	case fieldA:
 		return common.InRange(c.A, 0, lines-1)
 	case fieldB:
-		return common.FirstError(common.InRange(c.B, 0, lines-1), errorIf(c.A == c.B, api.ErrTwice))
+		return common.FirstError(common.InRange(c.B, 0, lines-1), common.ErrorIf(c.A == c.B, api.ErrTwice))
 	case fieldMin:
 		return common.InRange(c.Min, 1, MaxWidth)
 	case fieldMax:
-		return common.FirstError(common.InRange(c.Max, 1, MaxWidth), errorIf(c.Min > c.Max, api.ErrOrder))
+		return common.FirstError(common.InRange(c.Max, 1, MaxWidth), common.ErrorIf(c.Min > c.Max, api.ErrOrder))
 	case fieldPattern:
-		return errorIf(len(c.Pattern) != lines || strings.Trim(c.Pattern, "01x") != "", api.ErrForm)
+		return common.ErrorIf(len(c.Pattern) != lines || strings.Trim(c.Pattern, "01x") != "", api.ErrForm)
 	case fieldElement:
 		if len(c.Kids) != 1 {
 			return api.ErrShape
 		}
 	case fieldElements:
-		if e := common.FirstError(errorIf(len(c.Kids) == 0, api.ErrEmpty), common.AtMost(c.Kids, MaxKids)); e != api.OK {
+		if e := common.FirstError(common.ErrorIf(len(c.Kids) == 0, api.ErrEmpty), common.AtMost(c.Kids, MaxKids)); e != api.OK {
 			return e
 		}
 	}
@@ -102,14 +102,6 @@ func checkField(c Cond, field rune, lines, depth int) api.Errno {
 		if e := checkCond(element, lines, depth+1); e != api.OK {
 			return e
 		}
-	}
-	return api.OK
-}
-
-// errorIf returns an error if there is one, and otherwise OK.
-func errorIf(isError bool, e api.Errno) api.Errno {
-	if isError {
-		return e
 	}
 	return api.OK
 }
@@ -131,9 +123,9 @@ func checkSignal(signal []int, lines int) api.Errno {
 func CheckAutomaton(a Automaton) api.Errno {
 	e := common.FirstError(
 		common.InRange(a.Lines, 1, MaxBits),
-		errorIf(len(a.Next) == 0, api.ErrEmpty),
+		common.ErrorIf(len(a.Next) == 0, api.ErrEmpty),
 		common.AtMost(a.Next, api.MaxStates),
-		errorIf(len(a.Fires) != len(a.Next), api.ErrShape),
+		common.ErrorIf(len(a.Fires) != len(a.Next), api.ErrShape),
 	)
 	if e != api.OK {
 		return e
@@ -165,5 +157,5 @@ func checkInput(a Automaton, signal []int) api.Errno {
 
 // checkTwo returns the error of two automata, and ErrShape if their numbers of lines differ.
 func checkTwo(a, b Automaton) api.Errno {
-	return common.FirstError(CheckAutomaton(a), CheckAutomaton(b), errorIf(a.Lines != b.Lines, api.ErrShape))
+	return common.FirstError(CheckAutomaton(a), CheckAutomaton(b), common.ErrorIf(a.Lines != b.Lines, api.ErrShape))
 }

@@ -61,7 +61,7 @@ func Distinguish(a, b Automaton) ([]int, api.Errno) {
 		return nil, e
 	}
 	signal, _ := differences(a, b)
-	return signal, errorIf(signal == nil, api.ErrNone)
+	return signal, common.ErrorIf(signal == nil, api.ErrNone)
 }
 
 // Shortest returns the shortest signal after which an automaton triggers.
@@ -107,7 +107,7 @@ func CheckRelation(a, b Automaton, l [][2]int) api.Errno {
 			return api.ErrOrder
 		}
 	}
-	return errorIf(!proves(a, b, l), api.ErrProof)
+	return common.ErrorIf(!proves(a, b, l), api.ErrProof)
 }
 
 // proves reports whether a relation proves that two automata trigger alike.

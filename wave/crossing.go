@@ -7,6 +7,7 @@ import (
 	"strobe/common"
 	"strobe/number"
 	"strobe/rational"
+	"strobe/record"
 )
 
 // Crossings returns the times at which the linear interpolation crosses a level.
@@ -16,7 +17,7 @@ func Crossings(samples []float32, level api.Rat) ([]Crossing, api.Errno) {
 		return nil, e
 	}
 	var crossings []Crossing
-	sides := signs(samples, to)
+	sides := record.Signs(samples, to)
 	for p := range pieces(samples) {
 		c, e := p.crossing(to, sides[p.index] >= 0, sides[p.index+1] >= 0)
 		if e != api.OK {
@@ -50,9 +51,9 @@ func Passages(samples []float32, level api.Rat, s Signal) ([]Passage, api.Errno)
 		return nil, e
 	}
 	var passages []Passage
-	sides := sureSides(samples, to, b.noise)
+	sides := record.SureSides(samples, to, b.noise)
 	for from := range samples {
-		end := passageEnd(sides, from)
+		end := record.PassageEnd(sides, from)
 		if end <= from {
 			continue
 		}
@@ -66,36 +67,6 @@ func Passages(samples []float32, level api.Rat, s Signal) ([]Passage, api.Errno)
 		passages = append(passages, Passage{Time: span, Up: isUp})
 	}
 	return passages, api.OK
-}
-
-// sureSides returns for each sample -1 if it is surely low, 1 if it is surely high, and 0 if it is undecided.
-func sureSides(samples []float32, level, noise rational.Number) []int {
-	shifted := func(by rational.Number) rational.Number { return level.Plus(by) }
-	lower, upper := signs(samples, shifted(noise.Negated())), signs(samples, shifted(noise))
-	sides := make([]int, len(samples))
-	for i := range sides {
-		// A sample is surely low or high if it is on the same side of both levels.
-		if lower[i] == upper[i] {
-			sides[i] = lower[i]
-		}
-	}
-	return sides
-}
-
-// passageEnd returns the sample with which the passage from a sample ends, or that sample itself if there is none.
-func passageEnd(sides []int, from int) int {
-	end := from
-search:
-	for i := from + 1; sides[from] != 0 && i < len(sides); i++ {
-		switch sides[i] {
-		case sides[from]:
-			break search
-		case -sides[from]:
-			end = i
-			break search
-		}
-	}
-	return end
 }
 
 // passageTimes returns the time interval of the passage from the first to the last sample of a record,
@@ -130,7 +101,7 @@ func negated(samples []float32) []float32 {
 
 // firstReached returns the first time at which the linear interpolation is at least a level, if there is one.
 func firstReached(samples []float32, level rational.Number) (rational.Number, bool) {
-	first := slices.IndexFunc(signs(samples, level), func(sign int) bool { return sign >= 0 })
+	first := slices.IndexFunc(record.Signs(samples, level), func(sign int) bool { return sign >= 0 })
 	switch first {
 	case -1:
 		return rational.Number{}, false

@@ -3,7 +3,6 @@ package wave
 import (
 	"iter"
 
-	"strobe/common"
 	"strobe/rational"
 )
 
@@ -83,12 +82,4 @@ func interpolated(samples []float32, t rational.Number) rational.Number {
 		return rational.Exact(samples[i])
 	}
 	return pieceAt(samples, i).value(rest)
-}
-
-// signs returns the sign of each sample less a level.
-func signs(samples []float32, level rational.Number) []int {
-	differences := common.Transformed(samples, func(sample float32) rational.Number {
-		return rational.Exact(sample).Minus(level)
-	})
-	return common.Transformed(differences, rational.Number.Sign)
 }
