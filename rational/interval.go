@@ -59,3 +59,38 @@ func (a Interval) Plus(b Interval) Interval {
 func (a Interval) Times(b Interval) Interval {
 	return Enclosing(a.Low.Times(b.Low), a.Low.Times(b.High), a.High.Times(b.Low), a.High.Times(b.High))
 }
+
+// Negated returns the numbers with the opposite sign.
+func (a Interval) Negated() Interval {
+	return Interval{a.High.Negated(), a.Low.Negated()}
+}
+
+// Scaled returns the product with a number.
+func (a Interval) Scaled(x Number) Interval {
+	if x.Sign() < 0 {
+		return a.Negated().Scaled(x.Negated())
+	}
+	return Interval{a.Low.Times(x), a.High.Times(x)}
+}
+
+// Magnitude returns the absolute values.
+func (a Interval) Magnitude() Interval {
+	switch {
+	case a.Low.Sign() >= 0:
+		return a
+	case a.High.Sign() <= 0:
+		return a.Negated()
+	}
+	return Enclosing(Of(0), a.Low.Negated(), a.High)
+}
+
+// Square returns the squares.
+func (a Interval) Square() Interval {
+	magnitude := a.Magnitude()
+	return Interval{magnitude.Low.Square(), magnitude.High.Square()}
+}
+
+// Contains reports whether all numbers of another interval are in a.
+func (a Interval) Contains(b Interval) bool {
+	return a.Low.Compare(b.Low) <= 0 && b.High.Compare(a.High) <= 0
+}

@@ -162,9 +162,11 @@ func (a natural) overWord(word uint64) (natural, natural) {
 
 // commonDivisor returns the greatest common divisor; that of 0 and another natural is the other one.
 func commonDivisor(a, b natural) natural {
+	if a.compare(b) < 0 {
+		a, b = b, a
+	}
 	for len(b) > 2 {
-		_, rest := a.over(b)
-		a, b = b, rest
+		a, b = stepsFor(a, b).replace(a, b)
 	}
 	if b.isZero() {
 		return a
@@ -176,6 +178,54 @@ func commonDivisor(a, b natural) natural {
 		x, y = y, x%y
 	}
 	return naturalOf(x)
+}
+
+// steps are some steps of Euclid's algorithm at once: they replace a and b by p a + q b and r a + s b.
+// All are below the base; p and q do not have the same sign, nor do r and s.
+type steps struct{ p, q, r, s int64 }
+
+// stepsFor returns the steps that the first two words of a and b tell, where a is at least b.
+func stepsFor(a, b natural) steps {
+	n := len(a)
+	x, y := int64(a.word(n-1)*base+a.word(n-2)), int64(b.word(n-1)*base+b.word(n-2))
+	done := steps{p: 1, s: 1}
+	// The words that follow decide where between two bounds the next quotient lies. If both bounds have the same integer
+	// part, the divisor y is above the new r and s, and their products with it are below the square of the base.
+	for y+done.r > 0 && y+done.s > 0 {
+		quotient := (x + done.p) / (y + done.r)
+		if quotient != (x+done.q)/(y+done.s) {
+			break
+		}
+		done = steps{done.r, done.s, done.p - quotient*done.r, done.q - quotient*done.s}
+		x, y = y, x-quotient*y
+	}
+	return done
+}
+
+// replace returns what some steps make of a and b, or what one step makes of them if there are none.
+func (t steps) replace(a, b natural) (natural, natural) {
+	if t.q == 0 {
+		_, rest := a.over(b)
+		return b, rest
+	}
+	return mixed(t.p, a, t.q, b), mixed(t.r, a, t.s, b)
+}
+
+// mixed returns p a + q b, which is at least 0 and at most a.
+func mixed(p int64, a natural, q int64, b natural) natural {
+	words := make(natural, len(a))
+	carry := int64(0)
+	for i := range words {
+		carry += p*int64(a[i]) + q*int64(b.word(i))
+		word := carry % base
+		carry /= base
+		if word < 0 {
+			word += base
+			carry--
+		}
+		words[i] = uint64(word)
+	}
+	return trimmed(words)
 }
 
 // dividedBy returns the integer part of a / b; b is above 0.

@@ -170,6 +170,12 @@ func (a Number) Times(b Number) Number {
 	return Number{a.negative != b.negative && !top.isZero(), top, bottomA.times(bottomB)}
 }
 
+// Square returns a times a.
+func (a Number) Square() Number {
+	// Lowest terms remain lowest terms.
+	return Number{false, a.top.times(a.top), a.bottom.times(a.bottom)}
+}
+
 // Over returns the quotient.
 func (a Number) Over(b Number) Number {
 	return a.Times(Number{b.negative, b.bottom, b.top})

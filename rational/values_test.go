@@ -207,6 +207,37 @@ func TestIntervals(t *testing.T) {
 	}
 }
 
+func TestNegatedAndScaledIntervals(t *testing.T) {
+	a, b := interval(t, "-1", "2"), interval(t, "-3", "-1/2")
+	half, _ := read(t, "1/2")
+	for _, row := range []struct {
+		got    rational.Interval
+		wanted api.Span
+	}{
+		{a.Negated(), api.Span{Low: "-2", High: "1"}}, {b.Negated(), api.Span{Low: "1/2", High: "3"}},
+		{a.Scaled(half), api.Span{Low: "-1/2", High: "1"}}, {a.Scaled(half.Negated()), api.Span{Low: "-1", High: "1/2"}}, {a.Scaled(rational.Of(0)), api.Span{Low: "0", High: "0"}},
+		{a.Magnitude(), api.Span{Low: "0", High: "2"}}, {interval(t, "-2", "1").Magnitude(), api.Span{Low: "0", High: "2"}}, {b.Magnitude(), api.Span{Low: "1/2", High: "3"}},
+		{interval(t, "1/2", "3").Magnitude(), api.Span{Low: "1/2", High: "3"}}, {interval(t, "-3", "0").Magnitude(), api.Span{Low: "0", High: "3"}}, {interval(t, "0", "3").Magnitude(), api.Span{Low: "0", High: "3"}},
+		{a.Square(), api.Span{Low: "0", High: "4"}}, {b.Square(), api.Span{Low: "1/4", High: "9"}}, {interval(t, "1/2", "3").Square(), api.Span{Low: "1/4", High: "9"}}, {interval(t, "0", "0").Square(), api.Span{Low: "0", High: "0"}},
+	} {
+		if got, e := row.got.Write(); got != row.wanted || e != api.OK {
+			t.Errorf("got %v, %d, want %v", got, e, row.wanted)
+		}
+	}
+}
+
+func TestContains(t *testing.T) {
+	a := interval(t, "-1", "2")
+	for _, row := range []struct {
+		low, high api.Rat
+		wanted    bool
+	}{{"-1", "2", true}, {"0", "1", true}, {"2", "2", true}, {"-1", "-1", true}, {"-2", "1", false}, {"0", "3", false}, {"-3/2", "5/2", false}, {"3", "4", false}, {"-3", "-2", false}, {"1", "20000001/10000000", false}} {
+		if got := a.Contains(interval(t, row.low, row.high)); got != row.wanted {
+			t.Errorf("Contains %s, %s: got %v", row.low, row.high, got)
+		}
+	}
+}
+
 func TestIntervalErrors(t *testing.T) {
 	for _, row := range []struct {
 		s api.Span
@@ -238,5 +269,50 @@ func TestCommonDivisors(t *testing.T) {
 		c := new(big.Rat).SetFrac(words(2), new(big.Int).Mul(common, words(1)))
 		checkOperations(t, api.Rat(a.RatString()), api.Rat(c.RatString()))
 		checkOperations(t, api.Rat(a.RatString()), api.Rat(new(big.Rat).Neg(a).RatString()))
+	}
+}
+
+// Euclid's algorithm takes many steps at once where both numbers have more than two words: their leading words may
+// be equal, tell no step, or tell wrong ones.
+func TestLongCommonDivisors(t *testing.T) {
+	r := rand.New(rand.NewSource(7))
+	power := func(n int) *big.Int { return new(big.Int).Exp(big.NewInt(10), big.NewInt(int64(n)), nil) }
+	number := func() *big.Int {
+		n := 1 + r.Intn(150)
+		x := new(big.Int).Rand(r, power(n))
+		switch r.Intn(4) {
+		case 0:
+			// Nearly a power of 10.
+			x.Add(power(n), big.NewInt(r.Int63n(5)-2))
+		case 1:
+			// Consecutive Fibonacci numbers have quotients of 1 only.
+			a, b := big.NewInt(1), big.NewInt(1+r.Int63n(2))
+			for range r.Intn(600) {
+				a, b = b, a.Add(a, b)
+			}
+			x = b
+		}
+		return x.Add(x, big.NewInt(2))
+	}
+	for range 4000 {
+		common, top, bottom := number(), number(), number()
+		if r.Intn(3) == 0 {
+			bottom.Add(new(big.Int).Mul(top, big.NewInt(r.Int63n(3))), number())
+		}
+		a := new(big.Rat).SetFrac(top, common)
+		b := new(big.Rat).SetFrac(common, bottom)
+		checkOperations(t, api.Rat(a.RatString()), api.Rat(b.RatString()))
+		checkOperations(t, api.Rat(a.RatString()), api.Rat(new(big.Rat).SetFrac(number(), new(big.Int).Mul(common, bottom)).RatString()))
+	}
+}
+
+// The square of a number has the digits that the product has.
+func TestSquares(t *testing.T) {
+	for _, a := range samples(rand.New(rand.NewSource(8))) {
+		x, y := read(t, a)
+		check(t, "Square "+string(a), x.Square(), new(big.Rat).Mul(y, y))
+	}
+	if text, e := (rational.Number{}).Square().Write(); text != "" || e != api.ErrZero {
+		t.Errorf("the square of no number is %s, %d", text, e)
 	}
 }
