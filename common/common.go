@@ -53,6 +53,24 @@ func Converted[From, To any](list []From, convert func(From) (To, api.Errno)) ([
 	return results, api.OK
 }
 
+// Combined returns what a function makes of the elements with the same index of two lists that are equally long.
+func Combined[From, To any](a, b []From, combine func(From, From) To) []To {
+	results := make([]To, len(a))
+	for i, x := range a {
+		results[i] = combine(x, b[i])
+	}
+	return results
+}
+
+// Folded returns the first of some elements, joined with each of the others in turn. There is at least one.
+func Folded[T any](join func(T, T) T, elements []T) T {
+	result := elements[0]
+	for _, x := range elements[1:] {
+		result = join(result, x)
+	}
+	return result
+}
+
 // PositiveZero returns 0 for -0, and every other sample as it is: no result is -0.
 func PositiveZero(sample float32) float32 {
 	if sample == 0 {

@@ -83,6 +83,30 @@ func TestConverted(t *testing.T) {
 	}
 }
 
+func TestCombined(t *testing.T) {
+	a, b := []int{5, 1, 2}, []int{3, 4, 2}
+	if texts := common.Combined(a, b, func(x, y int) string { return strconv.Itoa(x - y) }); !slices.Equal(texts, []string{"2", "-3", "0"}) {
+		t.Errorf("Combined: got %v", texts)
+	}
+	first := common.Combined(a, b, func(x, _ int) int { return x })
+	first[0] = 9
+	if a[0] != 5 || b[0] != 3 {
+		t.Error("a list and the combined one share memory")
+	}
+	if len(common.Combined(nil, []int{}, func(x, y int) int { return x + y })) != 0 {
+		t.Error("Combined has elements of empty lists")
+	}
+}
+
+func TestFolded(t *testing.T) {
+	join := func(a, b string) string { return "(" + a + b + ")" }
+	for wanted, elements := range map[string][]string{"a": {"a"}, "(ab)": {"a", "b"}, "((ab)c)": {"a", "b", "c"}} {
+		if got := common.Folded(join, elements); got != wanted {
+			t.Errorf("Folded %v: got %s", elements, got)
+		}
+	}
+}
+
 func TestPositiveZero(t *testing.T) {
 	for _, f := range []float32{0, 1, -1, math.SmallestNonzeroFloat32, -math.SmallestNonzeroFloat32, math.MaxFloat32} {
 		if got := common.PositiveZero(f); got != f {

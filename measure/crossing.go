@@ -149,7 +149,7 @@ func Transitions(s []float32, low, high api.Rat) ([]Transition, api.Errno) {
 
 // zonesOf returns for each sample -1 if it is below the lower threshold, 1 if it is at least the upper one, and otherwise 0.
 func zonesOf(s []float32, between rational.Interval) []int {
-	return combined(record.Signs(s, between.Low), record.Signs(s, between.High), func(lower, upper int) int {
+	return common.Combined(record.Signs(s, between.Low), record.Signs(s, between.High), func(lower, upper int) int {
 		switch {
 		case lower < 0:
 			return -1

@@ -116,7 +116,7 @@ func sums(x column) column {
 
 // pairwise returns a function that combines the values of two columns with the same index.
 func pairwise(combine func(a, b rational.Number) rational.Number) func(a, b column) (column, api.Errno) {
-	return func(a, b column) (column, api.Errno) { return combined(a, b, combine), api.OK }
+	return func(a, b column) (column, api.Errno) { return common.Combined(a, b, combine), api.OK }
 }
 
 // quotients returns the quotients of the values with the same index, or ErrZero if one is divided by 0.
@@ -124,5 +124,5 @@ func quotients(a, b column) (column, api.Errno) {
 	if slices.ContainsFunc(b, func(x rational.Number) bool { return x.Sign() == 0 }) {
 		return nil, api.ErrZero
 	}
-	return combined(a, b, rational.Number.Over), api.OK
+	return common.Combined(a, b, rational.Number.Over), api.OK
 }

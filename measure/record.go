@@ -53,19 +53,10 @@ func total(numbers []rational.Number) rational.Number {
 	return sum
 }
 
-// combined returns what a function makes of the elements with the same index of two lists that are equally long.
-func combined[T any](a, b []T, combine func(T, T) T) []T {
-	results := make([]T, len(a))
-	for i, x := range a {
-		results[i] = combine(x, b[i])
-	}
-	return results
-}
-
 // gaps returns the differences between each number and the next one.
 func gaps(numbers []rational.Number) []rational.Number {
 	if len(numbers) == 0 {
 		return nil
 	}
-	return combined(numbers[1:], numbers[:len(numbers)-1], rational.Number.Minus)
+	return common.Combined(numbers[1:], numbers[:len(numbers)-1], rational.Number.Minus)
 }

@@ -193,6 +193,13 @@ func (a Number) Floor() Number {
 	return Number{a.negative, whole, naturalOf(1)}
 }
 
+// FloorOver returns the greatest integer that is not above a / b.
+func (a Number) FloorOver(b Number) Number {
+	// Lowest terms of the quotient would take far longer.
+	top, bottom := a.top.times(b.bottom), a.bottom.times(b.top)
+	return Number{a.negative != b.negative && !top.isZero(), top, bottom}.Floor()
+}
+
 // Int returns the value of an integer from 0 to MaxNumber; it is 0 and false for every other number.
 func (a Number) Int() (int, bool) {
 	if !a.bottom.isOne() || a.negative || len(a.top) > 1 {

@@ -109,6 +109,37 @@ func TestParts(t *testing.T) {
 	}
 }
 
+func TestFloorOver(t *testing.T) {
+	r := rand.New(rand.NewSource(8))
+	l := samples(r)
+	for _, a := range l {
+		for range 5 {
+			b := l[r.Intn(len(l))]
+			x, v := read(t, a)
+			y, w := read(t, b)
+			if w.Sign() == 0 {
+				if text, e := x.FloorOver(y).Write(); text != "" || e != api.ErrZero {
+					t.Errorf("FloorOver %s, 0: got %s, %d", a, text, e)
+				}
+				continue
+			}
+			quotient := new(big.Rat).Quo(v, w)
+			check(t, "FloorOver "+string(a)+", "+string(b), x.FloorOver(y), new(big.Rat).SetInt(new(big.Int).Div(quotient.Num(), quotient.Denom())))
+		}
+	}
+	three, none := rational.Of(3), rational.Number{}
+	for a, wanted := range map[int]api.Rat{-7: "-3", -6: "-2", -1: "-1", 0: "0", 2: "0", 3: "1", 8: "2"} {
+		if text, e := rational.Of(a).FloorOver(three).Write(); text != wanted || e != api.OK {
+			t.Errorf("FloorOver %d, 3: got %s, %d", a, text, e)
+		}
+	}
+	for _, x := range []rational.Number{none.FloorOver(three), three.FloorOver(none), none.FloorOver(none)} {
+		if text, e := x.Write(); text != "" || e != api.ErrZero {
+			t.Errorf("FloorOver without a number: got %s, %d", text, e)
+		}
+	}
+}
+
 // The parts of what is no number are no numbers.
 func TestNoParts(t *testing.T) {
 	var none rational.Number

@@ -8,7 +8,7 @@ import (
 
 // mean returns the arithmetic mean of some numbers, at least one.
 func mean(numbers []rational.Number) rational.Number {
-	return folded(rational.Number.Plus, numbers).Over(rational.Of(len(numbers)))
+	return common.Folded(rational.Number.Plus, numbers).Over(rational.Of(len(numbers)))
 }
 
 // Mean returns the mean of records, value by value.
@@ -34,5 +34,5 @@ func MeanPower(records [][]api.Rat, k, decimals int) (api.Span, api.Errno) {
 	}
 	c := circleOf(n, decimals)
 	powers := common.Transformed(rows, func(row []rational.Number) rational.Interval { return c.bin(row, k).power() })
-	return folded(rational.Interval.Plus, powers).Scaled(rational.Of(1).Over(rational.Of(len(rows)))).Write()
+	return common.Folded(rational.Interval.Plus, powers).Scaled(rational.Of(1).Over(rational.Of(len(rows)))).Write()
 }

@@ -4,6 +4,7 @@ import (
 	"slices"
 
 	"strobe/api"
+	"strobe/common"
 	"strobe/rational"
 )
 
@@ -14,7 +15,7 @@ func correlation(a, b []rational.Number, by int) rational.Number {
 	for j, i := range rotation(len(b), -by) {
 		products[j] = a[j].Times(b[i])
 	}
-	return folded(rational.Number.Plus, products)
+	return common.Folded(rational.Number.Plus, products)
 }
 
 // mirrored returns values with the index j at the index -j, where indices are taken modulo their number.

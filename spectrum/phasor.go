@@ -2,6 +2,7 @@ package spectrum
 
 import (
 	"strobe/api"
+	"strobe/common"
 	"strobe/number"
 	"strobe/rational"
 )
@@ -80,7 +81,7 @@ func (c *circle) at(m int) phasor {
 
 // sum returns the sum of phasors that have been multiplied by the scale.
 func (c *circle) sum(terms []phasor) phasor {
-	return folded(phasor.plus, terms).scaled(rational.Of(1).Over(c.scale))
+	return common.Folded(phasor.plus, terms).scaled(rational.Of(1).Over(c.scale))
 }
 
 // bin returns the enclosure of a bin of n values.

@@ -44,7 +44,7 @@ func Leakage(n int, cycles api.Rat, k, decimals int) (api.Span, api.Errno) {
 	if e != api.OK {
 		return api.Span{}, e
 	}
-	return folded(rational.Interval.Plus, bounds).Scaled(rational.Of(1).Over(rational.Of(2))).Write()
+	return common.Folded(rational.Interval.Plus, bounds).Scaled(rational.Of(1).Over(rational.Of(2))).Write()
 }
 
 // inverseMagnitude returns 1 divided by the absolute values of an interval, or ErrZero if it contains 0.

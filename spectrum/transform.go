@@ -43,7 +43,7 @@ func readFloats(floats []float32) ([]rational.Number, api.Errno) {
 
 // magnitude returns the sum of the absolute values of some numbers, at least one.
 func magnitude(values []rational.Number) rational.Number {
-	return folded(rational.Number.Plus, common.Transformed(values, rational.Number.Magnitude))
+	return common.Folded(rational.Number.Plus, common.Transformed(values, rational.Number.Magnitude))
 }
 
 // tolerance returns the tolerance of some floats, which are multiples, as a multiple, too.

@@ -68,7 +68,7 @@ func Energy(values []api.Rat) (api.Rat, api.Errno) {
 	if e != api.OK {
 		return "", e
 	}
-	return folded(rational.Number.Plus, common.Transformed(x, rational.Number.Square)).Write()
+	return common.Folded(rational.Number.Plus, common.Transformed(x, rational.Number.Square)).Write()
 }
 
 // Shift returns values that are rotated by a number of indices.
